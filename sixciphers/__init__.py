@@ -1,0 +1,1 @@
+"""Six ciphers that need no tables."""
